@@ -1,0 +1,1 @@
+"""Eventloom: events that make events, handled in one told order."""
