@@ -14,8 +14,24 @@ FUNCTIONS = {
         "is_deed": ["thing"], "is_handler": ["thing"], "need_handlers": ["handlers"],
         "need_names": ["handlers", "names"], "hearers": ["handlers", "names", "word"],
     },
+    "eventloom.tale": {"begun": ["log"], "inside": ["log"], "turns": ["log"], "drawn": ["log", "events"]},
 }
-CLASSES = {"eventloom.errors": ["LoomError", "NoWord", "NoHandler", "Twice", "Stranger", "NoCount"]}
+CLASSES = {
+    "eventloom.errors": ["LoomError", "NoWord", "NoHandler", "Twice", "Stranger", "NoCount"],
+    "eventloom.waits": ["Waits"],
+    "eventloom.loom": ["Loom"],
+}
+METHODS = {
+    ("eventloom.waits", "Waits"): {
+        "__init__": ["self"], "sooner": ["self", "number"], "later": ["self", "number", "due"], "lineup": ["self"],
+        "lead": ["self"], "drop": ["self", "numbers"],
+    },
+    ("eventloom.loom", "Loom"): {
+        "__init__": ["self", "handlers", "names"], "send": ["self", "word"], "step": ["self"], "run": ["self", "most"],
+        "waiting": ["self"], "around": ["self"], "standing": ["self"], "idle": ["self"],
+    },
+}
+LIBRARY = {"heapq": ["heapify", "heappop", "heappush"], "collections": ["deque"]}
 
 
 def files():
@@ -34,6 +50,12 @@ class TestInterface(unittest.TestCase):
                 function = getattr(importlib.import_module(module), name)
                 self.assertEqual(function.__module__, module, name)
                 self.assertEqual(list(inspect.signature(function).parameters), arguments, name)
+
+    def test_methods_stand_in_their_classes(self):
+        for (module, name), methods in METHODS.items():
+            body = vars(getattr(importlib.import_module(module), name))
+            for method, arguments in methods.items():
+                self.assertEqual(list(inspect.signature(body[method]).parameters), arguments, (name, method))
 
     def test_classes_stand_in_their_files(self):
         for module, classes in CLASSES.items():
@@ -58,13 +80,16 @@ class TestForm(unittest.TestCase):
                 if isinstance(node, ast.FunctionDef):
                     self.assertLessEqual(node.end_lineno - node.lineno + 1, 40, (name, node.name))
 
-    def test_imports_come_from_the_package(self):
+    def test_imports_come_from_the_package_or_the_told_library(self):
         for name in files():
             for node in ast.walk(ast.parse(source(name))):
                 self.assertNotIsInstance(node, ast.Import, name)
                 if isinstance(node, ast.ImportFrom):
                     self.assertEqual(node.level, 0, name)
-                    self.assertEqual(node.module.split(".")[0], "eventloom", name)
+                    if node.module in LIBRARY:
+                        self.assertLessEqual(set(told.name for told in node.names), set(LIBRARY[node.module]), name)
+                    else:
+                        self.assertEqual(node.module.split(".")[0], "eventloom", name)
 
 
 if __name__ == "__main__":
